@@ -212,45 +212,57 @@ func sum(l []int) (n int) {
 	return n
 }
 
-// P9.7: a reader that answers an error ends it; what came ahead has been put, as often as the answer says.
+// P9.7: a reader that answers an error ends it, be its run cut off or changed anywhere behind its head; what came ahead has been put, as often as the answer says.
 func TestFilesWithSpoiltRuns(t *testing.T) {
 	lists := [][]api.Rec{
 		{rec(0, "a"), rec(1, "c"), rec(2, "e")}, {rec(3, "b"), rec(4, "d"), rec(5, "f")}, {rec(6, "b"), rec(7, "c"), rec(8, "g")},
 	}
+	faults := map[api.Errno]int{}
 	for i := range lists {
 		whole := runBytes(t, lists[i])
-		for size := 14; size < len(whole); size++ {
-			cut := slices.Clone(whole[:size])
-			ahead, _, _, fault := spill.Scan(cut)
-			// The records ahead of the fault come; when the last of them has been put, the fault is found.
-			bent := slices.Clone(lists)
-			bent[i] = append(slices.Clone(ahead), rec(99, "fault"))
-			var wanted []api.Rec
-			left := len(ahead)
-			for _, x := range mergedRecs(cmp.Compare, bent...) {
-				if left == 0 {
-					break
+		for at := 14; at < len(whole); at++ {
+			turned := slices.Clone(whole)
+			turned[at] ^= 4
+			for _, bad := range [][]byte{whole[:at], turned} {
+				faults[endsAtFault(t, lists, i, bad)]++
+				if t.Failed() {
+					t.Fatalf("run %d, cut or changed at %d", i, at)
 				}
-				wanted = append(wanted, x.rec)
-				if x.reader == i {
-					left--
-				}
-			}
-			all := make([][]byte, len(lists))
-			for k := range lists {
-				all[k] = runBytes(t, lists[k])
-			}
-			all[i] = cut
-			put, got := keep()
-			n, e := merge.Files(cmp.Compare, false, put, readers(t, system(t, api.FsConfig{}), all...)...)
-			want(t, "Files", e, fault)
-			want(t, "Files", n, len(wanted))
-			same(t, "what was put", *got, wanted)
-			if t.Failed() {
-				t.Fatalf("run %d, cut to %d bytes", i, size)
 			}
 		}
 	}
+	want(t, "runs that are torn and that are spoilt are among them", faults[api.ErrTorn] > 0 && faults[api.ErrSpoilt] > 0 && len(faults) == 2, true)
+}
+
+// endsAtFault merges run files of lists, but of the number i these bytes, and tells with which error it ended.
+func endsAtFault(t *testing.T, lists [][]api.Rec, i int, bad []byte) api.Errno {
+	t.Helper()
+	ahead, _, _, fault := spill.Scan(bad)
+	// The records ahead of the fault come; when the last of them has been put, the fault is found.
+	bent := slices.Clone(lists)
+	bent[i] = ahead
+	var wanted []api.Rec
+	left := len(ahead)
+	for _, x := range mergedRecs(cmp.Compare, bent...) {
+		if left == 0 {
+			break
+		}
+		wanted = append(wanted, x.rec)
+		if x.reader == i {
+			left--
+		}
+	}
+	all := make([][]byte, len(lists))
+	for k := range lists {
+		all[k] = runBytes(t, lists[k])
+	}
+	all[i] = bad
+	put, got := keep()
+	n, e := merge.Files(cmp.Compare, false, put, readers(t, system(t, api.FsConfig{}), all...)...)
+	want(t, "Files", e, fault)
+	want(t, "Files", n, len(wanted))
+	same(t, "what was put", *got, wanted)
+	return e
 }
 
 // P9.7: a Read that is refused, whichever it is, ends it with the file system's error, and no more Reads are made.
