@@ -87,24 +87,41 @@ func (j *job) run() api.Errno {
 	return j.sort()
 }
 
-// end removes what the job does not leave. What these calls answer goes by; but once the power is off there is no use in any more of them.
+// end removes what the job does not leave, whatever the calls answer. Once the power is off there is no use in any more of them.
 func (j *job) end(e api.Errno) {
-	if e == api.ErrPower || j.stands && j.note(api.Entry{Kind: api.EntryOutput}) == api.ErrPower {
+	if e == api.ErrPower {
 		return
 	}
+	var acts []func() api.Errno
+	if j.stands {
+		acts = append(acts, func() api.Errno { return j.note(api.Entry{Kind: api.EntryOutput}) })
+	}
 	for _, f := range j.open {
-		if f.Close() == api.ErrPower {
-			return
-		}
+		acts = append(acts, f.Close)
 	}
 	for _, name := range j.registry.Names() {
-		if j.registry.Drop(name) == api.ErrPower {
-			return
-		}
+		acts = append(acts, func() api.Errno { return j.registry.Drop(name) })
 	}
 	// The journal goes last: without it the next life would not know whose the files are.
-	if j.journal != nil && j.journal.Close() != api.ErrPower {
-		j.journal.Finish()
+	if j.journal != nil {
+		acts = append(acts, j.journal.Close, j.journal.Finish)
+	}
+	doWithPower(acts)
+}
+
+// doWithPower does one thing after the other, until the power is off. One that panics keeps none of the others from being done.
+func doWithPower(acts []func() api.Errno) {
+	at := 0
+	defer func() {
+		// Only a panic leaves the loop ahead of its end.
+		if at < len(acts) {
+			doWithPower(acts[at+1:])
+		}
+	}()
+	for ; at < len(acts); at++ {
+		if acts[at]() == api.ErrPower {
+			acts = acts[:at+1]
+		}
 	}
 }
 
@@ -158,8 +175,9 @@ func (j *job) makeTemp() (*simfs.File, string, api.Errno) {
 	return f, name, api.OK
 }
 
-// close closes what the job has opened. One whose Close is refused is closed too.
+// close closes what the job has opened. One whose Close is refused is closed too; of one whose Close panics that is not known, so it is closed once more at the end.
 func (j *job) close(f *simfs.File) api.Errno {
+	e := f.Close()
 	j.open = slices.DeleteFunc(j.open, func(other *simfs.File) bool { return other == f })
-	return f.Close()
+	return e
 }

@@ -11,6 +11,7 @@ import (
 type part struct {
 	number int
 	recs   []api.Rec
+	thrown any // what the sorting has panicked with, if it has
 }
 
 // Sort gives records in order, sorted by so many goroutines, unless done is closed.
@@ -18,7 +19,7 @@ func Sort(o *collate.Order, l []api.Rec, parallel int, done <-chan struct{}) ([]
 	if o == nil || !isParallel(parallel) || isClosed(done) {
 		return nil, false
 	}
-	parts, ok := sortParts(o, cut(l, parallel), done)
+	parts, ok := sortParts(o.Sort, cut(l, parallel), done)
 	if !ok {
 		return nil, false
 	}
@@ -53,7 +54,7 @@ func cut(l []api.Rec, many int) [][]api.Rec {
 }
 
 // sortParts sorts each part by a goroutine of its own, all of which have ended when it answers; false: done was closed ahead of the end.
-func sortParts(o *collate.Order, parts [][]api.Rec, done <-chan struct{}) ([][]api.Rec, bool) {
+func sortParts(sorting func([]api.Rec) []api.Rec, parts [][]api.Rec, done <-chan struct{}) ([][]api.Rec, bool) {
 	sorted := make(chan part)
 	over := make(chan struct{})
 	var workers sync.WaitGroup
@@ -61,7 +62,7 @@ func sortParts(o *collate.Order, parts [][]api.Rec, done <-chan struct{}) ([][]a
 		workers.Add(1)
 		go func() {
 			defer workers.Done()
-			p := part{i, o.Sort(recs)}
+			p := sortPart(sorting, i, recs)
 			select {
 			case sorted <- p:
 			case <-over:
@@ -72,16 +73,36 @@ func sortParts(o *collate.Order, parts [][]api.Rec, done <-chan struct{}) ([][]a
 	// Whoever has not sent its part yet need not any more: else the wait would have no end.
 	close(over)
 	workers.Wait()
-	return out, ok
+	return recsOf(out), ok
+}
+
+// sortPart sorts a part. Out of a goroutine of its own a panic would end the program, whoever recovers: it is sent to the one that asked.
+func sortPart(sorting func([]api.Rec) []api.Rec, number int, recs []api.Rec) (p part) {
+	p.number = number
+	defer func() { p.thrown = recover() }()
+	p.recs = sorting(recs)
+	return p
+}
+
+// recsOf gives the records of parts, or panics as the first of them did that has.
+func recsOf(parts []part) [][]api.Rec {
+	var l [][]api.Rec
+	for _, p := range parts {
+		if p.thrown != nil {
+			panic(p.thrown)
+		}
+		l = append(l, p.recs)
+	}
+	return l
 }
 
 // collect takes so many parts as they come, and lays each where it belongs; false: done was closed meanwhile.
-func collect(sorted <-chan part, many int, done <-chan struct{}) ([][]api.Rec, bool) {
-	out := make([][]api.Rec, many)
+func collect(sorted <-chan part, many int, done <-chan struct{}) ([]part, bool) {
+	out := make([]part, many)
 	for got := 0; got < many; {
 		select {
 		case p := <-sorted:
-			out[p.number] = p.recs
+			out[p.number] = p
 			got++
 		case _, more := <-done:
 			if !more {

@@ -39,13 +39,14 @@ func Begin(fs *simfs.FS, name string, print uint64) (j *Journal, e api.Errno) {
 		return nil, e
 	}
 	defer func() {
-		if e != api.OK {
+		// There is none behind a panic either.
+		if j == nil {
 			f.Close()
 			fs.Remove(name)
 		}
 	}()
 	first := jobBytes(print)
-	if e = writeSynced(f, first); e != api.OK {
+	if e := writeSynced(f, first); e != api.OK {
 		return nil, e
 	}
 	return newJournal(fs, name, f, first, 1), api.OK
@@ -119,8 +120,9 @@ func (j *Journal) Close() api.Errno {
 	case j.shut:
 		return api.ErrClosed
 	}
+	e := j.file.Close()
 	j.shut = true
-	return j.file.Close()
+	return e
 }
 
 // Finish takes the journal away.
